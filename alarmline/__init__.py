@@ -1,0 +1,1 @@
+"""Alarmline: alarms that several desks see and tell."""
