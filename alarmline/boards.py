@@ -4,7 +4,7 @@ from alarmline.deeds import check_deeds
 
 
 class OpenAlarm:
-    """What stands of an open alarm, from its opening on."""
+    """What stands of an open alarm; the opening is the stamp of the raise that opened it."""
 
     def __init__(self, opening, level):
         self.opening = opening
@@ -16,22 +16,26 @@ class OpenAlarm:
 def board_of(deeds):
     """Tell (alarm, opening, level, till, taker) of all open alarms, rising."""
     check_deeds(deeds)
-    alarms = {}
     # No stamp stands twice, so the order of the tuples is that of their stamps.
-    for deed in sorted(deeds):
+    return board_behind(sorted(deeds))
+
+
+def board_behind(deeds):
+    """Tell the board behind what surely are deeds, in the order of their stamps."""
+    alarms = {}
+    for deed in deeds:
         do_deed(alarms, deed)
     return [row_of(alarm, alarms[alarm]) for alarm in sorted(alarms)]
 
 
 def do_deed(alarms, deed):
     """Do one deed upon the open alarms, a dict by their numbers."""
-    what = deed[1]
+    stamp, what = deed
     word = what[0]
     alarm = what[1]
     if alarm not in alarms:
         if word == "raise":
-            # The document calls the raise itself the opening, so the deed is kept whole.
-            alarms[alarm] = OpenAlarm(deed, what[2])
+            alarms[alarm] = OpenAlarm(stamp, what[2])
     elif word == "clear":
         del alarms[alarm]
     else:

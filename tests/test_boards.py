@@ -12,12 +12,13 @@ def numbered(*whats):
     return [((count, 0), what) for count, what in enumerate(whats, start=1)]
 
 
-OPENING = ((1, 0), ("raise", 3, 2))
+RAISE = ("raise", 3, 2)
+OPENING = (1, 0)
 
 
 def behind(*whats):
     """The board behind the opening of alarm 3 at level 2, and these."""
-    return board_of(numbered(OPENING[1], *whats))
+    return board_of(numbered(RAISE, *whats))
 
 
 class Closed(unittest.TestCase):
@@ -31,7 +32,7 @@ class Closed(unittest.TestCase):
 
     def test_what_is_done_ahead_of_the_opening_is_not_kept(self):
         deeds = numbered(("hush", 3, 50), ("take", 3, 4), ("clear", 3), ("raise", 3, 2))
-        self.assertEqual(board_of(deeds), [(3, ((4, 0), ("raise", 3, 2)), 2, 0, None)])
+        self.assertEqual(board_of(deeds), [(3, (4, 0), 2, 0, None)])
 
     def test_a_raise_opens(self):
         self.assertEqual(behind(), [(3, OPENING, 2, 0, None)])
@@ -39,12 +40,12 @@ class Closed(unittest.TestCase):
     def test_a_raise_opens_at_each_level(self):
         for level in range(1, 6):
             deed = ((1, 0), ("raise", 3, level))
-            self.assertEqual(board_of([deed]), [(3, deed, level, 0, None)])
+            self.assertEqual(board_of([deed]), [(3, (1, 0), level, 0, None)])
 
     def test_the_first_and_the_last_alarm(self):
         for alarm in (0, 29):
             deed = ((9999, 4), ("raise", alarm, 5))
-            self.assertEqual(board_of([deed]), [(alarm, deed, 5, 0, None)])
+            self.assertEqual(board_of([deed]), [(alarm, (9999, 4), 5, 0, None)])
 
 
 class Open(unittest.TestCase):
@@ -124,15 +125,14 @@ class Open(unittest.TestCase):
 
 class OpenAgain(unittest.TestCase):
     def test_a_new_opening_is_neither_hushed_nor_taken(self):
-        again = ((5, 0), ("raise", 3, 4))
         self.assertEqual(
-            behind(("hush", 3, 50), ("take", 3, 4), ("clear", 3), again[1]),
-            [(3, again, 4, 0, None)],
+            behind(("hush", 3, 50), ("take", 3, 4), ("clear", 3), ("raise", 3, 4)),
+            [(3, (5, 0), 4, 0, None)],
         )
 
     def test_a_second_clear_does_nothing(self):
-        again = ((4, 0), ("raise", 3, 2))
-        self.assertEqual(behind(("clear", 3), ("clear", 3), again[1]), [(3, again, 2, 0, None)])
+        told = behind(("clear", 3), ("clear", 3), ("raise", 3, 2))
+        self.assertEqual(told, [(3, (4, 0), 2, 0, None)])
 
 
 class Order(unittest.TestCase):
@@ -140,7 +140,7 @@ class Order(unittest.TestCase):
         deeds = numbered(
             ("raise", 3, 2), ("take", 3, 4), ("clear", 3), ("raise", 3, 5), ("hush", 3, 7)
         )
-        told = [(3, ((4, 0), ("raise", 3, 5)), 5, 7, None)]
+        told = [(3, (4, 0), 5, 7, None)]
         for shuffled in itertools.permutations(deeds):
             self.assertEqual(board_of(list(shuffled)), told)
 
@@ -157,31 +157,31 @@ class Order(unittest.TestCase):
         opening = ((2, 1), ("raise", 3, 1))
         self.assertEqual(board_of([((2, 3), ("clear", 3)), opening]), [])
         self.assertEqual(
-            board_of([((2, 0), ("clear", 3)), opening]), [(3, opening, 1, 0, None)]
+            board_of([((2, 0), ("clear", 3)), opening]), [(3, (2, 1), 1, 0, None)]
         )
 
     def test_of_two_raises_the_lesser_stamp_is_the_opening(self):
         first = ((2, 1), ("raise", 3, 1))
         second = ((2, 3), ("raise", 3, 4))
-        self.assertEqual(board_of([second, first]), [(3, first, 4, 0, None)])
+        self.assertEqual(board_of([second, first]), [(3, (2, 1), 4, 0, None)])
 
     def test_several_alarms_are_told_rising(self):
         alarms = (10, 29, 2, 0, 17)
         deeds = numbered(*[("raise", alarm, 1) for alarm in alarms])
         told = board_of(deeds + [((9, 1), ("take", 17, 0)), ((9, 2), ("hush", 2, 8))])
         self.assertEqual(told, [
-            (0, deeds[3], 1, 0, None),
-            (2, deeds[2], 1, 8, None),
-            (10, deeds[0], 1, 0, None),
-            (17, deeds[4], 1, 0, 0),
-            (29, deeds[1], 1, 0, None),
+            (0, (4, 0), 1, 0, None),
+            (2, (3, 0), 1, 8, None),
+            (10, (1, 0), 1, 0, None),
+            (17, (5, 0), 1, 0, 0),
+            (29, (2, 0), 1, 0, None),
         ])
 
 
 class NothingKept(unittest.TestCase):
     def setUp(self):
-        self.deeds = [((2, 0), ("hush", 3, 9)), OPENING, ((3, 1), ("raise", 1, 1))]
-        self.told = [(1, ((3, 1), ("raise", 1, 1)), 1, 0, None), (3, OPENING, 2, 9, None)]
+        self.deeds = [((2, 0), ("hush", 3, 9)), (OPENING, RAISE), ((3, 1), ("raise", 1, 1))]
+        self.told = [(1, (3, 1), 1, 0, None), (3, OPENING, 2, 9, None)]
 
     def test_the_list_handed_in_is_the_same_behind_the_call(self):
         before = list(self.deeds)
@@ -189,7 +189,7 @@ class NothingKept(unittest.TestCase):
         self.assertEqual(self.deeds, before)
 
     def test_the_list_handed_in_is_the_same_behind_a_refusal(self):
-        wrong = self.deeds + [OPENING]
+        wrong = self.deeds + [(OPENING, RAISE)]
         before = list(wrong)
         with self.assertRaises(BadDeeds):
             board_of(wrong)
@@ -197,7 +197,7 @@ class NothingKept(unittest.TestCase):
 
     def test_a_refusal_changes_nothing(self):
         with self.assertRaises(BadDeeds):
-            board_of(self.deeds + [OPENING])
+            board_of(self.deeds + [(OPENING, RAISE)])
         self.assertEqual(board_of(self.deeds), self.told)
 
     def test_what_is_told_may_be_changed(self):
