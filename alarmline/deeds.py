@@ -1,6 +1,6 @@
-"""What a deed is, and the refusal of a list that holds anything else."""
+"""What numbers and deeds are, and the refusal of what is none."""
 
-from alarmline.errors import BadDeeds
+from alarmline.errors import BadAlarm, BadBeat, BadDeeds, BadLevel, BadPerson
 
 MOST_DEEDS = 1000
 
@@ -11,6 +11,7 @@ RANGES = {
     "beat": (0, 999),
     "count": (1, 9999),
     "desk": (0, 4),
+    "desks": (2, 5),
 }
 
 STAMP_PARTS = ("count", "desk")
@@ -38,6 +39,30 @@ def all_fit(kinds, numbers):
     if len(kinds) != len(numbers):
         return False
     return all([fits(kind, number) for kind, number in zip(kinds, numbers)])
+
+
+def check_alarm(alarm):
+    """Refuse BadAlarm for what is no alarm."""
+    if not fits("alarm", alarm):
+        raise BadAlarm("alarms are numbers from 0 to 29")
+
+
+def check_level(level):
+    """Refuse BadLevel for what is no level."""
+    if not fits("level", level):
+        raise BadLevel("levels are numbers from 1 to 5")
+
+
+def check_beat(beat):
+    """Refuse BadBeat for what is no beat."""
+    if not fits("beat", beat):
+        raise BadBeat("beats are numbers from 0 to 999")
+
+
+def check_person(person):
+    """Refuse BadPerson for what is no person."""
+    if not fits("person", person):
+        raise BadPerson("persons are numbers from 0 to 9")
 
 
 def is_stamp(stamp):
