@@ -96,6 +96,52 @@ class Language(unittest.TestCase):
                     self.assertIn(node.id, ALLOWED)
                     self.assertIsInstance(node.ctx, ast.Load)
 
+    def test_at_module_level_stand_plain_values_bound_once(self):
+        for _, text in self.each_file():
+            bound = []
+            for node in ast.parse(text).body:
+                if isinstance(node, ast.Assign):
+                    bound += [target.id for target in node.targets]
+                    ast.literal_eval(node.value)
+                elif isinstance(node, ast.ImportFrom):
+                    bound += [alias.asname or alias.name for alias in node.names]
+                elif isinstance(node, (ast.FunctionDef, ast.ClassDef)):
+                    bound.append(node.name)
+                else:
+                    self.assertIsInstance(node.value.value, str)
+            self.assertEqual(len(bound), len(set(bound)))
+
+    def test_no_local_name_is_that_of_a_class_an_import_or_a_builtin(self):
+        for _, text in self.each_file():
+            tree = ast.parse(text)
+            taken = set(vars(builtins)) | {node.name for node in tree.body if isinstance(node, ast.ClassDef)}
+            for node in tree.body:
+                if isinstance(node, ast.ImportFrom):
+                    taken |= {alias.asname or alias.name for alias in node.names}
+            for node in ast.walk(tree):
+                if isinstance(node, ast.arg):
+                    self.assertNotIn(node.arg, taken)
+                if isinstance(node, ast.Name) and isinstance(node.ctx, ast.Store):
+                    self.assertNotIn(node.id, taken)
+
+    def test_is_stands_beside_none_true_or_false_only(self):
+        for _, text in self.each_file():
+            for node in ast.walk(ast.parse(text)):
+                if isinstance(node, ast.Compare) and any(isinstance(op, (ast.Is, ast.IsNot)) for op in node.ops):
+                    self.assertTrue(all(getattr(right, "value", 0) in (None, True, False) for right in node.comparators))
+
+    def test_no_statement_or_expression_beyond_the_subset(self):
+        for _, text in self.each_file():
+            for node in ast.walk(ast.parse(text)):
+                self.assertNotIsInstance(node, (
+                    ast.Global, ast.AsyncFunctionDef, ast.Await, ast.AnnAssign, ast.GeneratorExp, ast.Lambda, ast.Yield,
+                ))
+                if isinstance(node, ast.ExceptHandler):
+                    self.assertNotIn(getattr(node.type, "id", None), (None, "ValueError", "Exception", "TypeError"))
+                if isinstance(node, ast.Raise):
+                    self.assertIsInstance(node.exc, ast.Call)
+                    self.assertIsInstance(node.exc.func, ast.Name)
+
     def test_no_two_files_import_from_each_other(self):
         imports = {
             path.stem: [node.module.split(".")[1] for node in ast.walk(ast.parse(text))
